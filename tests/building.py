@@ -41,6 +41,30 @@ def nearest(i, name, p, q):
     return [6, i, name, p, q]
 
 
+def count(i):
+    return [7, i]
+
+
+def spare(i):
+    return [8, i]
+
+
+def names(a, b):
+    return [9, a, b]
+
+
+def drop(i):
+    return [10, i]
+
+
+def faces():
+    return [11]
+
+
+def layout(i):
+    return [12, i]
+
+
 def with_parity(word):
     """The word, its parity bit set if its ones would be even."""
     return word if bin(word).count("1") % 2 == 1 else word | 1 << 31

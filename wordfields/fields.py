@@ -19,6 +19,11 @@ class Field:
         self.fixed = numbers[6]
 
 
+def field_numbers(field):
+    """A field's seven numbers, in the order in which they're told."""
+    return [field.name, field.kind, field.low, field.width, field.num, field.den, field.fixed]
+
+
 def told_fields(face):
     """The fields of an interface that aren't constants, in their order."""
     return [field for field in face if field.kind != CONSTANT]
@@ -78,6 +83,18 @@ def bits_for(field, number):
     if number_of(field, bits) != number:
         return None
     return bits
+
+
+def pattern_count(field):
+    """How many unlike bits of a field stand for something."""
+    if field.kind == CONSTANT:
+        return 1
+    if field.kind != DIGITS:
+        return 1 << field.width
+    patterns = 1
+    for shift in range(0, field.width, 4):
+        patterns = patterns * 10
+    return patterns
 
 
 def common_divisor(a, b):

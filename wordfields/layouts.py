@@ -5,9 +5,13 @@ from wordfields.fields import DIGITS
 from wordfields.fields import Field
 from wordfields.fields import SIGNED
 from wordfields.fields import field_mask
+from wordfields.fields import field_numbers
 
 FIELD_SIZE = 7
 MOST_FIELDS = 12
+
+# Bits 0 to 30: those that can be a field's.
+ALL_FIELD_BITS = 2147483647
 
 # Least and most for name, kind, low, width, num, den and fixed.
 FIELD_RANGES = ((0, 99), (0, 3), (0, 30), (1, 31), (1, 1000000), (1, 1000000), (0, 2147483647))
@@ -27,6 +31,14 @@ def is_as_told(numbers):
 def fields_of(numbers):
     """The fields of a list that is as told."""
     return [Field(numbers[k:k + FIELD_SIZE]) for k in range(0, len(numbers), FIELD_SIZE)]
+
+
+def numbers_of(face):
+    """The list that tells an interface: its fields' numbers, one field behind another."""
+    numbers = []
+    for field in face:
+        numbers.extend(field_numbers(field))
+    return numbers
 
 
 def is_right(field):
@@ -73,3 +85,8 @@ def layout_refusal(face):
 def spare_count(face):
     """How many of the bits 0 to 30 are no field's."""
     return 31 - sum([field.width for field in face])
+
+
+def spare_mask(face):
+    """The word in which just the spare bits are 1."""
+    return ALL_FIELD_BITS - sum([field_mask(field) for field in face])

@@ -4,6 +4,7 @@ from wordfields.fields import CONSTANT
 from wordfields.fields import bits_for
 from wordfields.fields import field_bits
 from wordfields.fields import number_of
+from wordfields.fields import pattern_count
 from wordfields.fields import told_fields
 
 PARITY = 2147483648
@@ -52,3 +53,11 @@ def read_fields(face, word):
         if field.kind != CONSTANT:
             numbers.append(number)
     return numbers
+
+
+def word_count(face):
+    """How many unlike words an interface can make."""
+    words = 1
+    for field in face:
+        words = words * pattern_count(field)
+    return words
